@@ -1,0 +1,1 @@
+"""Manyboard: one leader and however many followers at a board."""

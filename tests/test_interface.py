@@ -1,0 +1,69 @@
+"""The interface: names, arguments in their order, and where each thing is defined."""
+
+import importlib
+import inspect
+import unittest
+
+# File, class, arguments of making one, methods with their arguments.
+CLASSES = [
+    ("boards", "Board", ["cells"], {"cells": [], "values_of": ["cell"], "first": []}),
+    ("trees", "Write", ["cell", "value"], {}),
+    ("trees", "Wait", ["cell", "value"], {}),
+    ("trees", "Mark", ["name"], {}),
+    ("trees", "Skip", [], {}),
+    ("trees", "Stop", [], {}),
+    ("trees", "If", ["cell", "value", "yes", "no"], {}),
+    ("trees", "While", ["cell", "value", "body"], {}),
+    ("trees", "Choose", ["one", "other"], {}),
+    ("trees", "Loop", ["body"], {}),
+    ("trees", "Program", ["statements"], {}),
+    ("errors", "BadCount", ["what", "count"], {"told": []}),
+    ("errors", "NoName", ["name"], {"told": []}),
+    ("errors", "Twice", ["name"], {"told": []}),
+    ("errors", "NoCell", ["name"], {"told": []}),
+    ("errors", "NoValue", ["cell", "value"], {"told": []}),
+    ("errors", "BadText", ["place"], {"told": []}),
+    ("errors", "NoRoom", ["room"], {"told": []}),
+    ("errors", "NoHand", ["hand"], {"told": []}),
+    ("errors", "NoStep", ["step"], {"told": []}),
+    ("errors", "Shut", ["cell", "value"], {"told": []}),
+    ("errors", "NoMark", ["name"], {"told": []}),
+    ("errors", "Wide", ["count"], {"told": []}),
+    ("errors", "Never", [], {"told": []}),
+    ("errors", "Beyond", ["count"], {"told": []}),
+    ("errors", "Full", [], {"told": []}),
+    ("errors", "NoBar", ["name"], {"told": []}),
+    ("errors", "Barred", ["many", "deeds"], {"told": []}),
+    ("errors", "BadRow", ["row"], {"told": []}),
+]
+
+
+def arguments(function):
+    """The names of a method's arguments behind its own object."""
+    return list(inspect.signature(function).parameters)[1:]
+
+
+class Interface(unittest.TestCase):
+    def test_classes_stand_in_their_files(self):
+        for file, name, _, _ in CLASSES:
+            with self.subTest(name):
+                module = importlib.import_module("manyboard." + file)
+                self.assertEqual(getattr(module, name).__module__, "manyboard." + file)
+
+    def test_arguments_of_making_one(self):
+        for file, name, wanted, _ in CLASSES:
+            with self.subTest(name):
+                made = getattr(importlib.import_module("manyboard." + file), name)
+                self.assertEqual(arguments(made.__init__) if wanted else [], wanted)
+
+    def test_methods_stand_in_the_class_itself(self):
+        for file, name, _, methods in CLASSES:
+            made = getattr(importlib.import_module("manyboard." + file), name)
+            for method, wanted in methods.items():
+                with self.subTest(name, method=method):
+                    self.assertIn(method, vars(made))
+                    self.assertEqual(arguments(vars(made)[method]), wanted)
+
+
+if __name__ == "__main__":
+    unittest.main()
