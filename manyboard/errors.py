@@ -4,6 +4,9 @@
 class BoardError(ValueError):
     """What every refusal is."""
 
+    def told(self):
+        return "refused boarderror"
+
 
 class BadCount(BoardError):
     """There are too few or too many of something."""

@@ -70,6 +70,20 @@ class Kinds(unittest.TestCase):
     def test_the_base_is_a_value_error(self):
         self.assertTrue(issubclass(errors.BoardError, ValueError))
 
+    def test_the_base_tells_by_a_told_of_its_own(self):
+        self.assertIn("told", vars(errors.BoardError))
+        self.assertEqual(errors.BoardError.__module__, "manyboard.errors")
+        self.assertEqual(errors.BoardError().told(), "refused boarderror")
+        self.assertEqual(errors.BoardError("any words").told(), "refused boarderror")
+
+    def test_told_is_the_word_and_the_name_of_the_class_for_all_nineteen(self):
+        made = [errors.BoardError()] + [refusal(name)(*values) for name, (_, values) in REFUSALS.items()]
+        self.assertEqual(len(made), 19)
+        for one in made:
+            with self.subTest(one.__class__.__name__):
+                self.assertIn("told", vars(one.__class__))
+                self.assertEqual(one.told(), "refused " + one.__class__.__name__.lower())
+
     def test_each_stands_under_the_base_alone(self):
         for name, (_, values) in REFUSALS.items():
             made = refusal(name)(*values)
