@@ -1,6 +1,6 @@
 """The checks that more than one file makes of what is handed in."""
 
-from manyboard.errors import BadCount, NoName, Twice
+from manyboard.errors import BadCount, NoName, NoValue, Twice
 
 LETTERS = "abcdefghijklmnopqrstuvwxyz"
 LETTERS_AND_FIGURES = "abcdefghijklmnopqrstuvwxyz0123456789"
@@ -32,3 +32,9 @@ def need_count(what, count, low, high):
     """Refuses with BadCount where a count is not from low to high."""
     if not low <= count <= high:
         raise BadCount(what, count)
+
+
+def need_value(board, cell, value):
+    """Refuses with NoCell, then with NoValue, where the board does not have a cell with this value."""
+    if value not in board.values_of(cell):
+        raise NoValue(cell, value)
