@@ -17,6 +17,13 @@ CLASSES = [
     ("trees", "Choose", ["one", "other"], {}),
     ("trees", "Loop", ["body"], {}),
     ("trees", "Program", ["statements"], {}),
+    ("rooms", "Machine", ["board", "program"], {
+        "rooms": [], "steps": ["room"], "mark_of": ["room"], "marks": []}),
+    ("games", "Game", ["board", "leader", "follower"], {
+        "machine": ["which"], "board": [], "begin": ["many"], "moves": ["standing"], "moved": ["standing", "move"],
+        "played": ["many", "moves"], "stops_at": ["many", "moves"]}),
+    ("questions", "Question", ["lead", "follows", "holds"], {}),
+    ("errors", "BoardError", [], {"told": []}),
     ("errors", "BadCount", ["what", "count"], {"told": []}),
     ("errors", "NoName", ["name"], {"told": []}),
     ("errors", "Twice", ["name"], {"told": []}),
@@ -35,6 +42,18 @@ CLASSES = [
     ("errors", "NoBar", ["name"], {"told": []}),
     ("errors", "Barred", ["many", "deeds"], {"told": []}),
     ("errors", "BadRow", ["row"], {"told": []}),
+]
+
+# File, function, arguments.
+FUNCTIONS = [
+    ("reading", "read_program", ["text"]),
+    ("lefts", "left", ["board", "row"]),
+    ("questions", "met", ["game", "question", "standing"]),
+    ("crowds", "gathered", ["game", "state", "rooms"]),
+    ("crowds", "entries", ["game"]),
+    ("sheets", "amiss", ["game", "sheet"]),
+    ("sheets", "shuts_out", ["game", "sheet", "question"]),
+    ("sheets", "brings", ["game", "many", "moves", "question"]),
 ]
 
 
@@ -63,6 +82,24 @@ class Interface(unittest.TestCase):
                 with self.subTest(name, method=method):
                     self.assertIn(method, vars(made))
                     self.assertEqual(arguments(vars(made)[method]), wanted)
+
+    def test_functions_stand_in_their_files(self):
+        for file, name, wanted in FUNCTIONS:
+            with self.subTest(name):
+                function = getattr(importlib.import_module("manyboard." + file), name)
+                self.assertEqual(function.__module__, "manyboard." + file)
+                self.assertTrue(inspect.isfunction(function))
+                self.assertEqual(list(inspect.signature(function).parameters), wanted)
+
+    def test_what_may_be_left_out(self):
+        for file, name, _, methods in CLASSES:
+            made = getattr(importlib.import_module("manyboard." + file), name)
+            with self.subTest(name):
+                makers = [made.__init__] if "__init__" in vars(made) else []
+                kept = [parameter.default for function in makers + [vars(made)[method] for method in methods]
+                        for parameter in inspect.signature(function).parameters.values()]
+                told = [worth for worth in kept if worth is not inspect.Parameter.empty]
+                self.assertEqual(told, [None, None, None] if name == "Question" else [])
 
 
 if __name__ == "__main__":
