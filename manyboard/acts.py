@@ -54,13 +54,3 @@ def state_behind(board, state, act):
     if act[0] == "put":
         return state[:place] + (value,) + state[place + 1:]
     return state if state[place] == value else None
-
-
-def steps_at(board, machine, room, state):
-    """The steps from a room that can be done at a state: number, room and state behind of each."""
-    found = []
-    for number, (act, target) in enumerate(machine.steps(room)):
-        after = state_behind(board, state, act)
-        if after is not None:
-            found.append((number, target, after))
-    return found

@@ -1,9 +1,10 @@
 """Games: a board, a leader and followers, move by move."""
 
-from manyboard.acts import state_behind, steps_at
+from manyboard.acts import state_behind
 from manyboard.checks import need_count
 from manyboard.errors import NoHand, NoStep, Shut
 from manyboard.rooms import Machine
+from manyboard.tables import Table
 
 MOST_FOLLOWERS = 400
 
@@ -13,11 +14,21 @@ class Game:
 
     def __init__(self, board, leader, follower):
         self._machines = (Machine(board, leader), Machine(board, follower))
+        self._tables = (Table(board, self._machines[0]), Table(board, self._machines[1]))
+        self._programs = (leader, follower)
         self._board = board
 
     def machine(self, which):
         """The leader's machine for 0, the followers' for 1."""
         return self._machines[which]
+
+    def table(self, which):
+        """What can be done in the leader's rooms for 0, in the followers' for 1."""
+        return self._tables[which]
+
+    def program(self, which):
+        """The leader's program for 0, the followers' for 1."""
+        return self._programs[which]
 
     def board(self):
         """The board."""
@@ -31,10 +42,10 @@ class Game:
     def moves(self, standing):
         """All moves that can be done, sorted."""
         lead, state, rooms = standing
-        found = [(0, step) for step, _, _ in steps_at(self._board, self.machine(0), lead, state)]
+        found = [(0, step) for step, _, _ in self.table(0).steps_at(state)[lead]]
+        steps = self.table(1).steps_at(state)
         for place, room in enumerate(rooms):
-            steps = steps_at(self._board, self.machine(1), room, state)
-            found.extend([(place + 1, step) for step, _, _ in steps])
+            found.extend([(place + 1, step) for step, _, _ in steps[room]])
         return found
 
     def moved(self, standing, move):

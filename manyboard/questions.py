@@ -29,6 +29,11 @@ class Question:
 def met(game, question, standing):
     """Whether a standing meets a question."""
     need_fit(game, question)
+    return standing_meets(game, question, standing)
+
+
+def standing_meets(game, question, standing):
+    """Whether a standing meets a question that fits the game."""
     room, state, rooms = standing
     marks = [game.machine(1).mark_of(place) for place in rooms]
     enough = [marks.count(name) >= question.follows.count(name) for name in question.follows]

@@ -1,27 +1,40 @@
 """Sheets: lists of entries that whoever trusts nobody can look through."""
 
-from manyboard.crowds import steps_on
+from manyboard.crowds import Crowd, bits_of
 from manyboard.questions import lead_and_cells_meet, met, need_fit
 
 
 def amiss(game, sheet):
     """What is amiss with a sheet, the first that is found, or None."""
-    for place, entry in enumerate(sheet):
-        if not is_entry(game, entry):
-            return ("entry", place)
+    place = place_of_no_entry(game, sheet)
+    if place is not None:
+        return ("entry", place)
     first = game.board().first()
     if not any([lead == 0 and state == first and 0 in rooms for lead, state, rooms in sheet]):
         return ("begin",)
     return step_amiss(game, sheet)
 
 
-def is_entry(game, entry):
-    """Whether this can be an entry of a game."""
-    lead, state, rooms = entry
-    most = game.machine(1).rooms()
+def place_of_no_entry(game, sheet):
+    """The first place of a sheet where the entry is none, or None."""
+    leads = game.machine(0).rooms()
+    # Many entries have a state or rooms in common, which are looked at once.
+    states = {}
+    crowds = {}
+    for place, (lead, state, rooms) in enumerate(sheet):
+        if state not in states:
+            states[state] = is_state(game.board(), state)
+        if rooms not in crowds:
+            crowds[rooms] = are_rooms(game.machine(1), rooms)
+        if not (0 <= lead < leads and states[state] and crowds[rooms]):
+            return place
+    return None
+
+
+def are_rooms(machine, rooms):
+    """Whether all of these are rooms of a machine, each greater than the one ahead of it."""
     rising = [low < high for low, high in zip(rooms, rooms[1:])]
-    return (0 <= lead < game.machine(0).rooms() and is_state(game.board(), state)
-            and all([0 <= room < most for room in rooms]) and all(rising))
+    return all([0 <= room < machine.rooms() for room in rooms]) and all(rising)
 
 
 def is_state(board, state):
@@ -34,22 +47,21 @@ def is_state(board, state):
 
 def step_amiss(game, sheet):
     """The first step that leads out of a sheet, or None."""
-    crowds = {}
-    for lead, state, rooms in sheet:
-        crowds.setdefault((lead, state), []).append(bits(rooms))
-    for place, entry in enumerate(sheet):
-        for hand, room, step, (lead, state, rooms) in steps_on(game, entry):
-            if not has_all(crowds.get((lead, state), []), bits(rooms)):
-                return ("step", place, hand, room, step)
+    leads = game.table(0)
+    crowd = Crowd(game.table(1))
+    marked = [(lead, state, bits_of(rooms)) for lead, state, rooms in sheet]
+    held = {}
+    for lead, state, bits in marked:
+        held.setdefault((lead, state), []).append(bits)
+    for place, (lead, state, bits) in enumerate(marked):
+        for step, target, after in leads.steps_at(state)[lead]:
+            if not has_all(held.get((target, after), []), bits):
+                return ("step", place, 0, lead, step)
+        # All other steps of a follower are answered by the entry itself.
+        for room, step, after, behind in crowd.steps_out(state, bits):
+            if not has_all(held.get((lead, after), []), behind):
+                return ("step", place, 1, room, step)
     return None
-
-
-def bits(rooms):
-    """Rooms as the bits of one number: a sheet is long, and many crowds are held against many."""
-    number = 0
-    for room in rooms:
-        number = number | (1 << room)
-    return number
 
 
 def has_all(crowds, wanted):

@@ -54,6 +54,12 @@ FUNCTIONS = [
     ("sheets", "amiss", ["game", "sheet"]),
     ("sheets", "shuts_out", ["game", "sheet", "question"]),
     ("sheets", "brings", ["game", "many", "moves", "question"]),
+    ("ways", "may", ["game", "question"]),
+    ("ways", "way", ["game", "question"]),
+    ("ways", "marks_met", ["game"]),
+    ("trimming", "trimmed", ["game"]),
+    ("counts", "standings", ["game", "many"]),
+    ("counts", "least", ["game", "question"]),
 ]
 
 

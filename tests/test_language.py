@@ -15,6 +15,17 @@ BUILTINS = {
 DUNDERS = {"__init__", "__eq__", "__repr__", "__str__", "__len__"}
 
 
+# What may go over a range, a zip and their like on the spot.
+ITERATING = {"list", "tuple", "dict", "sorted", "sum", "any", "all", "enumerate", "zip"}
+
+
+def is_lazy(function):
+    """Whether what is called gives something that is to be iterated at once."""
+    if isinstance(function, ast.Attribute):
+        return function.attr in {"items", "keys", "values"}
+    return isinstance(function, ast.Name) and function.id in {"range", "zip", "enumerate", "reversed", "map", "iter"}
+
+
 def sources():
     """The text of each file of the package, by its name."""
     found = {}
@@ -74,6 +85,49 @@ class Language(unittest.TestCase):
             elif isinstance(node, ast.Assign):
                 found.add(node.targets[0].id)
         return found
+
+    def test_no_two_files_import_from_each_other(self):
+        behind = {name: {node.module.split(".")[1] + ".py" for node in ast.walk(tree)
+                         if isinstance(node, ast.ImportFrom)} for name, tree in self.trees.items()}
+        left = dict(behind)
+        while left:
+            free = [name for name in left if not behind[name] & set(left)]
+            self.assertTrue(free, sorted(left))
+            for name in free:
+                del left[name]
+
+    def test_each_name_is_bound_once(self):
+        for file, tree in self.trees.items():
+            names = []
+            for node in tree.body:
+                if isinstance(node, ast.ImportFrom):
+                    names.extend(alias.name for alias in node.names)
+                elif isinstance(node, (ast.ClassDef, ast.FunctionDef)):
+                    names.append(node.name)
+                elif isinstance(node, ast.Assign):
+                    names.append(node.targets[0].id)
+            with self.subTest(file):
+                self.assertEqual(len(names), len(set(names)))
+                inner = {node.arg for node in ast.walk(tree) if isinstance(node, ast.arg)}
+                inner |= {node.id for node in ast.walk(tree)
+                          if isinstance(node, ast.Name) and isinstance(node.ctx, ast.Store)}
+                inner |= {node.name for node in ast.walk(tree) if isinstance(node, ast.ExceptHandler)}
+                barred = {alias.name for node in tree.body if isinstance(node, ast.ImportFrom) for alias in node.names}
+                barred |= {node.name for node in tree.body if isinstance(node, (ast.ClassDef, ast.FunctionDef))}
+                self.assertEqual(inner & barred, set())
+
+    def test_what_is_iterated_is_iterated_at_once(self):
+        for name, tree in self.trees.items():
+            good = set()
+            for node in ast.walk(tree):
+                if isinstance(node, (ast.For, ast.comprehension)):
+                    good.add(node.iter)
+                elif isinstance(node, ast.Call) and isinstance(node.func, ast.Name) and node.func.id in ITERATING:
+                    good.update(node.args)
+            for node in ast.walk(tree):
+                if isinstance(node, ast.Call) and is_lazy(node.func):
+                    with self.subTest(f"{name}:{node.lineno}"):
+                        self.assertIn(node, good)
 
     def test_builtins(self):
         known = set(dir(__import__("builtins")))
