@@ -23,6 +23,10 @@ CLASSES = [
         "machine": ["which"], "board": [], "begin": ["many"], "moves": ["standing"], "moved": ["standing", "move"],
         "played": ["many", "moves"], "stops_at": ["many", "moves"]}),
     ("questions", "Question", ["lead", "follows", "holds"], {}),
+    ("hall", "Hall", ["game"], {
+        "game": [], "join": [], "leave": ["hand"], "move": ["hand", "step"], "standing": [], "meets": ["question"],
+        "story": [], "bar": ["name", "question"], "bars": [], "lift": ["name"]}),
+    ("desk", "Desk", ["rows"], {"tell": ["row"]}),
     ("errors", "BoardError", [], {"told": []}),
     ("errors", "BadCount", ["what", "count"], {"told": []}),
     ("errors", "NoName", ["name"], {"told": []}),
@@ -60,6 +64,15 @@ FUNCTIONS = [
     ("trimming", "trimmed", ["game"]),
     ("counts", "standings", ["game", "many"]),
     ("counts", "least", ["game", "question"]),
+    ("likeness", "like", ["board", "one", "other"]),
+    ("likeness", "stands_in", ["board", "one", "other"]),
+    ("hall", "told_again", ["game", "story"]),
+    ("texts", "game_rows", ["game"]),
+    ("texts", "read_game", ["rows"]),
+    ("texts", "question_row", ["question"]),
+    ("texts", "read_question", ["text"]),
+    ("texts", "move_row", ["move"]),
+    ("texts", "read_move", ["text"]),
 ]
 
 
