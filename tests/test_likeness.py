@@ -117,6 +117,17 @@ class Like(unittest.TestCase):
                 self.check(one, other, wanted)
                 self.assertIs(stands_in(SMALL, read_program(one), read_program(other)), (0, 0) in wanted)
 
+    def test_what_is_put_out_late_because_of_what_stands_ahead_of_it(self):
+        for one, other in (
+            ("stop loop { write c a mark m }", ""),
+            ("stop loop { skip skip write c a skip }", "stop write c a"),
+            ("write c a write c a loop { write c a while c b { } mark m }", "write c a"),
+            ("write c a while c a { while c b { write c b skip } }", "choose { } or { write c b }"),
+        ):
+            self.check(one, other, greatest(SMALL, read_program(one), read_program(other)))
+        # 0 stop, 1 loop, 2 write, 3 mark, 4 the end: round and round everything leads to the write.
+        self.check("stop loop { write c a mark m }", "", [(0, 0), (4, 0)])
+
     def test_with_more_cells(self):
         texts = ["if d y { write c b } else { write d y }", "wait d x write d y write c b", "while d z { write d x } write c b",
                  "choose { write d y write d z } or { write c b }", "if d x { write d y } else { write c b }",
